@@ -1,0 +1,1 @@
+"""Flipwright: programs with chance, told exactly."""
