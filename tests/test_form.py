@@ -138,6 +138,15 @@ def l27_numbers_and_texts(node):
     return isinstance(node, ast.Constant) and isinstance(node.value, str) and "%" in node.value
 
 
+def shadowing_faults(tree):
+    taken = {alias.name for part in tree.body if isinstance(part, ast.ImportFrom) for alias in part.names}
+    taken |= {part.name for part in tree.body if isinstance(part, ast.ClassDef)}
+    for part in tree.body:
+        for node in ast.walk(part):
+            if node is not part and any(name in taken for name in names_bound(node)):
+                yield ("l15_names_of_imports_and_classes", node.lineno)
+
+
 def is_docstring(part):
     return isinstance(part, ast.Expr) and isinstance(part.value, ast.Constant) and isinstance(part.value.value, str)
 
@@ -184,6 +193,7 @@ def text_faults(source):
 def faults_of(source, own_methods=frozenset()):
     tree = ast.parse(source)
     faults = list(text_faults(source)) + top_faults(tree) + list(method_faults(tree, set(own_methods)))
+    faults += shadowing_faults(tree)
     docstring = tree.body[0] if tree.body and is_docstring(tree.body[0]) else None
     for node in ast.walk(tree):
         if isinstance(node, ast.Expr) and node is not docstring and not isinstance(node.value, ast.Call):
@@ -197,6 +207,11 @@ def faults_of(source, own_methods=frozenset()):
 def methods_of(trees):
     classes = [node for tree in trees for node in ast.walk(tree) if isinstance(node, ast.ClassDef)]
     return {part.name for node in classes for part in node.body if isinstance(part, ast.FunctionDef)}
+
+
+def values_of(trees):
+    nodes = [node for tree in trees for node in ast.walk(tree) if isinstance(node, ast.Attribute)]
+    return {node.attr for node in nodes if isinstance(node.ctx, ast.Store)}
 
 
 def drawn_from(tree):
@@ -219,6 +234,9 @@ class TestThePackage(unittest.TestCase):
         for name, source in self.sources.items():
             with self.subTest(name):
                 self.assertEqual(faults_of(source, own_methods), [])
+
+    def test_no_name_is_a_method_and_a_value(self):
+        self.assertEqual(methods_of(self.trees.values()) & values_of(self.trees.values()), set())
 
     def test_no_two_files_draw_from_one_another(self):
         waiting = {name: drawn_from(tree) for name, tree in self.trees.items()}
@@ -255,6 +273,8 @@ class TestTheRules(unittest.TestCase):
             ("l12_plain_names", "def f(_):\n    return 1\n"),
             ("l14_signs", "# \u00e9\n"),
             ("l15_each_name_once", "x = 1\nx = 2\n"),
+            ("l15_names_of_imports_and_classes", "from flipwright.words import end_of\n\n\ndef f(end_of):\n    pass\n"),
+            ("l15_names_of_imports_and_classes", "class C:\n    pass\n\n\ndef f(x):\n    C = x\n    return C\n"),
             ("l17_names_not_used", "def register(x):\n    return x\n"),
             ("l17_words", "# the enum\n"),
             ("l19_named_errors", "def f():\n    raise ValueError\n"),
