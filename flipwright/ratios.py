@@ -3,6 +3,7 @@
 from flipwright.errors import NoShare
 
 NOUGHT = (0, 1)
+WHOLE = (1, 1)
 
 
 def greatest_divisor(one, other):

@@ -1,7 +1,7 @@
 """Outcomes in order, and tables: with which share each outcome comes."""
 
 from flipwright.errors import Never
-from flipwright.ratios import NOUGHT, over, plus, times
+from flipwright.ratios import NOUGHT, fraction, over, plus, times
 
 
 def rank(outcome):
@@ -68,3 +68,8 @@ def share_of(table, outcome):
         if each == outcome:
             return share
     return NOUGHT
+
+
+def draw_shares(draw):
+    whole = sum([weight for number, weight in draw])
+    return [fraction(weight, whole) for number, weight in draw]

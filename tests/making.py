@@ -1,9 +1,15 @@
-"""What several tests need: terms, and programs made by numbers, each such as can be read and without wrong names."""
+"""What several tests need: terms, programs made by numbers, and tables reckoned by all rows of choices."""
 
 import random
+from fractions import Fraction
+from itertools import product
+from math import prod
 
-from flipwright.opening import opened
+from flipwright.errors import FlipError
+from flipwright.opening import Opened, opened
 from flipwright.reader import read
+from flipwright.running import Listed, run
+from flipwright.tables import rank
 from flipwright.words import words_of
 from flipwright.writer import shown
 
@@ -52,6 +58,9 @@ class Maker:
     def unlike(self, things, least, most):
         return self.chance.sample(things, self.some(least, most))
 
+    def weighed_numbers(self):
+        return [(number, self.some(1, 5)) for number in self.unlike(range(9), 1, 6)]
+
     def leaf(self, names):
         kind = self.one_of(["num", "name", "flip", "pick"])
         if kind == "name" and names:
@@ -60,7 +69,7 @@ class Maker:
             top = self.some(1, 9)
             return ("flip", top, top + self.some(1, 9))
         if kind == "pick":
-            return ("pick", tuple((number, self.some(1, 5)) for number in self.unlike(range(9), 1, 6)))
+            return ("pick", tuple(self.weighed_numbers()))
         return ("num", self.one_of([0, 1, 2, 999999999999]))
 
     def term(self, names, depth):
@@ -111,3 +120,105 @@ def fits(program):
 def made_programs(many, depth):
     programs = [Maker(seed).program(depth) for seed in range(many)]
     return [program for program in programs if fits(program)]
+
+
+def width(draws):
+    return prod(len(draw) for draw in draws)
+
+
+def opens(program):
+    try:
+        opened(program)
+    except FlipError:
+        return False
+    return True
+
+
+class OpenedMaker(Maker):
+    """Opened programs such as no text opens to: steps have even slots, binds odd ones, some draws stand nowhere."""
+
+    def __init__(self, seed):
+        Maker.__init__(self, seed)
+        self.draws = []
+
+    def new_draw(self):
+        for each in range(self.one_of([1, 1, 1, 2])):
+            self.draws.append(self.weighed_numbers()[:self.one_of([2, 2, 3, 6])])
+        return draw(len(self.draws) - 1)
+
+    def leaf(self, names):
+        kind = self.one_of(["num", "slot", "slot", "draw"])
+        if kind == "slot" and names:
+            return slot(self.one_of(names))
+        if kind == "draw" and len(self.draws) < 5:
+            return self.new_draw()
+        return num(self.one_of([0, 1, 2, 999999999999]))
+
+    def term(self, names, depth):
+        if depth > 1 and self.some(1, 4) == 1:
+            number = 2 * self.some(0, 4) + 1
+            return bind(number, self.term(names, depth - 1), self.term(names + [number], depth - 1))
+        return Maker.term(self, names, depth)
+
+    def opened(self, depth):
+        steps, slots, number = [], [], 0
+        for each in range(self.some(0, 4)):
+            if self.some(1, 3) == 1:
+                steps.append((-1, self.term(slots, depth)))
+            else:
+                steps.append((number, self.term(slots, depth)))
+                slots.append(number)
+                number += self.one_of([2, 2, 6])
+        steps.append((number, self.term(slots, depth)))
+        return Opened(steps, self.draws, number + 10)
+
+
+def made_opened(many, depth, most_rows):
+    """Opened programs, read ones and others, whose draws have at most so many rows of choices."""
+    ones = [opened(program) for program in made_programs(many, depth) if opens(program)]
+    ones += [OpenedMaker(seed).opened(depth) for seed in range(many)]
+    return [one for one in ones if width(one.draws) <= most_rows]
+
+
+def rows_of_choices(draws):
+    return [list(row) for row in product(*[range(len(draw)) for draw in draws])]
+
+
+def row_share(draws, row):
+    return prod((Fraction(draw[index][1], sum(weight for number, weight in draw)) for draw, index in zip(draws, row)),
+                start=Fraction(1))
+
+
+def as_table(shares):
+    """A table of a dict from outcomes to shares as Python's own fractions."""
+    ordered = sorted(shares, key=rank)
+    return [(outcome, (shares[outcome].numerator, shares[outcome].denominator)) for outcome in ordered]
+
+
+def table_by_rows(one):
+    """The program's table by runs with every row of choices; [] where no run has all that is seen."""
+    shares = {}
+    for row in rows_of_choices(one.draws):
+        outcome = run(one, Listed(row))
+        if outcome is not None:
+            shares[outcome] = shares.get(outcome, 0) + row_share(one.draws, row)
+    whole = sum(shares.values())
+    return as_table({outcome: share / whole for outcome, share in shares.items()})
+
+
+def shape(one):
+    """All that an opened program holds, to see whether something has changed it."""
+    return repr((one.steps, one.draws, one.slots))
+
+
+def beneath(outcomes, widths):
+    """All that the beginnings of a row of choices leave of what leads to these outcomes at every row, in order.
+
+    Each is told as the tuple of its outcomes at every row, so that two are equal where they lead alike.
+    """
+    found = set()
+    for fixed in range(len(widths) + 1):
+        many = prod(widths[fixed:])
+        for start in range(0, len(outcomes), many):
+            found.add(tuple(outcomes[start:start + many]) * (len(outcomes) // many))
+    return found

@@ -5,7 +5,7 @@ from itertools import permutations
 
 from flipwright.errors import Never
 from flipwright.ratios import fraction
-from flipwright.tables import in_order, mixed, scaled, share_of, table, total, turned, without
+from flipwright.tables import draw_shares, in_order, mixed, scaled, share_of, table, total, turned, without
 
 MOST = 10 ** 12 - 1
 # In order: None, numbers by size, records as Python's tuples are ordered.
@@ -313,6 +313,11 @@ class TestListsOfTheAsker(unittest.TestCase):
                         part[1].clear()
                 handed.clear()
                 self.assertEqual(repr(told), wanted)
+
+    def test_the_shares_of_a_draw(self):
+        self.assertEqual(draw_shares([(0, 2), (1, 1)]), [(2, 3), (1, 3)])
+        self.assertEqual(draw_shares([(9, 3), (4, 2), (6, 1)]), [(1, 2), (1, 3), (1, 6)])
+        self.assertEqual(draw_shares([(5, 7)]), [(1, 1)])
 
     def test_argument_names(self):
         self.assertEqual(table(pairs=HALVES), HALVES)

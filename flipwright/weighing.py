@@ -1,0 +1,30 @@
+"""Graphs weighed from below: the table of each part, and so the program's."""
+
+from flipwright.graphs import Graphs
+from flipwright.growing import grown
+from flipwright.ratios import WHOLE
+from flipwright.tables import draw_shares, mixed, scaled, without
+
+
+def graph_of(one):
+    graphs = Graphs()
+    return graphs.listed(grown(one, graphs))
+
+
+def weighed_question(draw, tables):
+    return mixed(list(zip(draw_shares(draw), tables)))
+
+
+def weighed(parts, draws):
+    tables = []
+    for part in parts:
+        if part[0] == "leaf":
+            tables.append([(part[1], WHOLE)])
+        else:
+            tables.append(weighed_question(draws[part[1]], [tables[child] for child in part[2]]))
+    return tables
+
+
+def graph_table(one):
+    tables = weighed(graph_of(one), one.draws)
+    return scaled(without(tables[-1], None))
