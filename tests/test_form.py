@@ -29,6 +29,11 @@ NODES = (
     ast.BoolOp, ast.Compare, ast.IfExp, ast.Call, ast.keyword, ast.Attribute, ast.Subscript, ast.Slice, ast.ListComp,
     ast.comprehension, ast.JoinedStr, ast.FormattedValue, ast.Name, ast.expr_context, ast.operator, ast.unaryop,
     ast.boolop, ast.cmpop)
+KEYWORDS = {"sorted": {"key", "reverse"}, "min": {"key", "default"}, "max": {"key", "default"}, "sum": {"start"},
+            "enumerate": {"start"}, "zip": {"strict"}}
+WALKED = {"zip", "enumerate", "reversed", "range"}
+WALKED_METHODS = {"items", "keys", "values"}
+WALKERS = {"list", "tuple", "dict", "sorted", "sum", "any", "all", "enumerate", "zip", "min", "max"}
 SINGLE_RULES = []
 
 
@@ -131,6 +136,55 @@ def l21_no_annotations(node):
     return bool(getattr(node, "annotation", None) or getattr(node, "returns", None))
 
 
+def called(node):
+    """The name of what is called, if it is called by its bare name."""
+    return node.func.id if isinstance(node, ast.Call) and isinstance(node.func, ast.Name) else None
+
+
+@rule
+def l22_keywords_of_python(node):
+    if called(node) in BUILTINS:
+        return any(keyword.arg not in KEYWORDS.get(called(node), ()) for keyword in node.keywords)
+    return isinstance(node, ast.Call) and isinstance(node.func, ast.Attribute) and node.func.attr in METHODS and bool(
+        node.keywords)
+
+
+@rule
+def l22_python_is_called(node):
+    if not (isinstance(node, ast.Name) and node.id in BUILTINS):
+        return False
+    if isinstance(node.parent, ast.Call) and node.parent.func is node or isinstance(node.parent, ast.keyword):
+        return False
+    # Classes stand by isinstance, except and as a base, too.
+    return node.id not in ("int", "str", "bool", "list", "tuple", "dict") and node.id[0].islower()
+
+
+@rule
+def l23_walked_at_once(node):
+    method = isinstance(node, ast.Call) and isinstance(node.func, ast.Attribute) and node.func.attr in WALKED_METHODS
+    if not (method or called(node) in WALKED):
+        return False
+    parent = node.parent
+    if isinstance(parent, (ast.For, ast.comprehension)):
+        return parent.iter is not node
+    if isinstance(parent, ast.Call) and isinstance(parent.func, ast.Attribute) and parent.func.attr == "join":
+        return not isinstance(parent.func.value, ast.Constant)
+    if called(parent) in ("min", "max") and len(parent.args) != 1:
+        return True
+    return not (called(parent) in WALKERS and parent.args[0] is node)
+
+
+@rule
+def l24_sets(node):
+    if not (isinstance(node, ast.Set) or called(node) in ("set", "frozenset")):
+        return False
+    while isinstance(node.parent, ast.BinOp):
+        node = node.parent
+    if isinstance(node.parent, ast.Compare):
+        return not all(isinstance(sign, (ast.In, ast.NotIn, ast.Eq, ast.NotEq)) for sign in node.parent.ops)
+    return called(node.parent) not in ("len", "sorted") or bool(node.parent.keywords)
+
+
 @rule
 def l27_numbers_and_texts(node):
     if isinstance(node, ast.BinOp) and isinstance(node.op, ast.Pow):
@@ -192,6 +246,9 @@ def text_faults(source):
 
 def faults_of(source, own_methods=frozenset()):
     tree = ast.parse(source)
+    for node in ast.walk(tree):
+        for child in ast.iter_child_nodes(node):
+            child.parent = node
     faults = list(text_faults(source)) + top_faults(tree) + list(method_faults(tree, set(own_methods)))
     faults += shadowing_faults(tree)
     docstring = tree.body[0] if tree.body and is_docstring(tree.body[0]) else None
@@ -250,6 +307,13 @@ class TestTheRules(unittest.TestCase):
     def assert_fault(self, name, source):
         self.assertIn(name, [fault for fault, line in faults_of(source)], source)
 
+    def test_what_is_walked_at_once_and_sets_on_the_spot_are_no_fault(self):
+        for line in ("[y for y in zip(x, x)]", "list(enumerate(x, start=1))", "len(set(x) - set(x))", "1 in {1, 2, 3}",
+                     "sorted(set(x) | set(x))", "max(range(9))", "', '.join(x.keys())", "sorted(x, key=len)",
+                     "isinstance(x, (int, str))", "set(x) == set(x)", "dict(zip(x, x))"):
+            with self.subTest(line):
+                self.assertEqual(faults_of("def f(x):\n    return " + line + "\n"), [])
+
     def test_a_plain_file_has_no_fault(self):
         self.assertEqual(faults_of('"""Why."""\n\nONE = (1, 1)\n\n\ndef f(x):\n    return [y for y in x if y]\n'), [])
 
@@ -280,6 +344,16 @@ class TestTheRules(unittest.TestCase):
             ("l19_named_errors", "def f():\n    raise ValueError\n"),
             ("l20_is", "def f(x, y):\n    return x is y\n"),
             ("l21_no_annotations", "def f(x: int):\n    return x\n"),
+            ("l22_keywords_of_python", "def f(x):\n    return int(x, base=2)\n"),
+            ("l22_keywords_of_python", "def f(x):\n    return x.split(sep=1)\n"),
+            ("l22_python_is_called", "def f(x):\n    return g(x, len)\n"),
+            ("l23_walked_at_once", "def f(x):\n    y = zip(x, x)\n    return y\n"),
+            ("l23_walked_at_once", "def f(x):\n    return max(range(x), range(x))\n"),
+            ("l23_walked_at_once", "def f(x):\n    return g(x.items())\n"),
+            ("l23_walked_at_once", "def f(x):\n    return zip(x, reversed(x))\n"),
+            ("l24_sets", "def f(x):\n    y = set(x)\n    return y\n"),
+            ("l24_sets", "def f(x):\n    return [y for y in set(x)]\n"),
+            ("l24_sets", "def f(x):\n    return sorted(set(x), key=len)\n"),
             ("l25_methods", "def f(x):\n    x.sort()\n"),
             ("l27_numbers_and_texts", "def f(n):\n    return 2 ** n\n"),
             ("l27_numbers_and_texts", "x = '%'\n"),
