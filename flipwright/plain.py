@@ -2,9 +2,9 @@
 
 from flipwright.errors import TooMuch
 from flipwright.opening import bound
-from flipwright.ratios import WHOLE, times
+from flipwright.ratios import fraction
 from flipwright.running import Hand, run, told
-from flipwright.tables import draw_shares, scaled, table
+from flipwright.tables import scaled, table, weights_of
 
 MOST_WAYS = 1024
 
@@ -14,13 +14,16 @@ class Walker(Hand):
         Hand.__init__(self)
         self.begun = begun
         self.widths = []
-        self.share = WHOLE
+        # Kept apart, and made a fraction once the way is done: that is far quicker than a product of fractions.
+        self.top = 1
+        self.bottom = 1
 
     def index_at(self, site, draw):
         place = len(self.taken)
         index = self.begun[place] if place < len(self.begun) else 0
         self.widths.append(len(draw))
-        self.share = times(self.share, draw_shares(draw)[index])
+        self.top *= draw[index][1]
+        self.bottom *= sum(weights_of(draw))
         return index
 
     # None behind the last way.
@@ -39,7 +42,7 @@ def walked(go):
     while begun is not None:
         hand = Walker(begun)
         outcome = go(hand)
-        found.append((hand.taken, hand.share, outcome))
+        found.append((hand.taken, fraction(hand.top, hand.bottom), outcome))
         begun = hand.next_begun()
     return found
 
@@ -48,9 +51,13 @@ def term_ways(term, held, draws):
     return walked(lambda hand: told(term, held, draws, hand))
 
 
-def ways(one):
+def check_bound(one):
     if bound(one) > MOST_WAYS:
         raise TooMuch("a program's bound is at most 1024 where its ways are told")
+
+
+def ways(one):
+    check_bound(one)
     return walked(lambda hand: run(one, hand))
 
 

@@ -70,6 +70,10 @@ def share_of(table, outcome):
     return NOUGHT
 
 
+def weights_of(draw):
+    return [weight for number, weight in draw]
+
+
 def draw_shares(draw):
-    whole = sum([weight for number, weight in draw])
-    return [fraction(weight, whole) for number, weight in draw]
+    weights = weights_of(draw)
+    return [fraction(weight, sum(weights)) for weight in weights]

@@ -18,6 +18,14 @@ FIELDS = ["a", "bb", "let", "zzzzzzzz"]
 LETS = ["x", "y", "ask", "def"]
 HELPERS = ["f", "g", "see"]
 HALF = [(0, 1), (1, 1)]
+THIRD = [(0, 2), (1, 1)]
+THREE = [(7, 1), (8, 2), (9, 3)]
+A1 = (("a", 1),)
+AB = (("a", 1), ("b", 5))
+
+
+def evenly(many):
+    return [(number, 1) for number in range(many)]
 
 
 def num(number):
@@ -206,6 +214,14 @@ def table_by_rows(one):
     return as_table({outcome: share / whole for outcome, share in shares.items()})
 
 
+def answer(teller, one):
+    """What a teller tells of a program, or which refusal comes of it."""
+    try:
+        return teller(one)
+    except FlipError as refusal:
+        return type(refusal)
+
+
 def shape(one):
     """All that an opened program holds, to see whether something has changed it."""
     return repr((one.steps, one.draws, one.slots))
@@ -222,3 +238,36 @@ def beneath(outcomes, widths):
         for start in range(0, len(outcomes), many):
             found.add(tuple(outcomes[start:start + many]) * (len(outcomes) // many))
     return found
+
+
+def led(parts, place, row):
+    """To which outcome a row of choices leads in a list of parts, from the part of this place."""
+    part = parts[place]
+    while part[0] == "ask":
+        part = parts[part[2][row[part[1]]]]
+    return part[1]
+
+
+def made_lists(seed):
+    """Parts and draws by chance: alike parts, needless questions and parts beneath no other among them."""
+    chance = random.Random(seed)
+    draws = [[(number, chance.randint(1, 9)) for number in range(chance.choice([1, 2, 2, 3, 6]))] for each in range(4)]
+    parts = [("leaf", chance.choice([None, 0, 1, 5, A1])) for each in range(3)]
+    for each in range(12):
+        site = chance.randrange(4)
+        fitting = [place for place, part in enumerate(parts) if part[0] == "leaf" or part[1] > site]
+        parts.append(("ask", site, chance.choices(fitting, k=len(draws[site]))))
+        if chance.randrange(4) == 0:
+            parts.append(("leaf", chance.choice([None, 0, 2, AB])))
+    return parts, draws
+
+
+def empty(parts, draws):
+    """Takes all out of lists that were handed in, to see whether what was told hangs on them."""
+    for part in parts:
+        if part[0] == "ask":
+            part[2].clear()
+    for each in draws:
+        each.clear()
+    parts.clear()
+    draws.clear()

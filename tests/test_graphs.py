@@ -6,10 +6,8 @@ from itertools import permutations, product
 
 from flipwright.errors import NoOrder, TooMuch
 from flipwright.graphs import Graphs
-from making import beneath
+from making import A1, AB, beneath
 
-A1 = (("a", 1),)
-AB = (("a", 1), ("b", 5))
 OUTCOMES = [None, 0, 1, 2, 10 ** 12 - 1, (("a", 0),), A1, AB]
 
 

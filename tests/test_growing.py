@@ -7,9 +7,7 @@ from flipwright.graphs import Graphs
 from flipwright.growing import grown
 from flipwright.opening import Opened, parts_of
 from flipwright.running import Listed, counted, figured, run
-from making import HALF, beneath, bind, draw, made_opened, num, op, opened_text, rows_of_choices, shape, slot
-
-THREE = [(7, 1), (8, 2), (9, 3)]
+from making import HALF, THREE, beneath, bind, draw, made_opened, num, op, opened_text, rows_of_choices, shape, slot
 
 
 class Figures:

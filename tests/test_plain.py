@@ -7,14 +7,8 @@ from flipwright.errors import Never, TooMuch
 from flipwright.opening import Opened, bound
 from flipwright.plain import plain_table, term_ways, ways
 from flipwright.running import Hand, Listed, run, told
-from making import (HALF, bind, draw, made_opened, num, op, opened_text, row_share, rows_of_choices, shape, slot,
-                    table_by_rows)
-
-THREE = [(7, 1), (8, 2), (9, 3)]
-
-
-def evenly(many):
-    return [(number, 1) for number in range(many)]
+from making import (HALF, THREE, bind, draw, evenly, made_opened, num, op, opened_text, row_share, rows_of_choices,
+                    shape, slot, table_by_rows)
 
 
 def all_drawn(*widths):

@@ -6,13 +6,10 @@ from itertools import product
 from flipwright.errors import TooMuch
 from flipwright.opening import Opened, opened
 from flipwright.running import Hand, Listed, counted, figured, run, told
-from making import HALF, bind, draw, made_programs, num, op, opened_text, slot
+from making import A1, AB, HALF, THREE, bind, draw, made_programs, num, op, opened_text, slot
 
 GREATEST = 10 ** 12 - 1
-A1 = (("a", 1),)
 A2 = (("a", 2),)
-AB = (("a", 1), ("b", 5))
-THREE = [(7, 1), (8, 2), (9, 3)]
 
 
 class Watcher(Hand):

@@ -1,6 +1,5 @@
 """Graphs weighed from below: promises 21 and 22, and what promises 2, 3 and 19 say of them."""
 
-import random
 import unittest
 from copy import deepcopy
 from fractions import Fraction
@@ -12,21 +11,8 @@ from flipwright.opening import Opened, bound
 from flipwright.plain import plain_table
 from flipwright.running import Listed, run
 from flipwright.weighing import graph_of, graph_table, weighed
-from making import (HALF, as_table, bind, draw, made_opened, num, op, opened_text, row_share, rows_of_choices, shape,
-                    slot, table_by_rows)
-
-A1 = (("a", 1),)
-AB = (("a", 1), ("b", 5))
-THIRD = [(0, 2), (1, 1)]
-THREE = [(7, 1), (8, 2), (9, 3)]
-
-
-def led(parts, place, row):
-    """To which outcome a row of choices leads in a list of parts, from the part of this place."""
-    part = parts[place]
-    while part[0] == "ask":
-        part = parts[part[2][row[part[1]]]]
-    return part[1]
+from making import (A1, HALF, THIRD, THREE, as_table, bind, draw, empty, led, made_lists, made_opened, num, op,
+                    opened_text, row_share, rows_of_choices, shape, slot, table_by_rows)
 
 
 def weighed_by_rows(parts, draws):
@@ -38,20 +24,6 @@ def weighed_by_rows(parts, draws):
             shares[outcome] = shares.get(outcome, 0) + row_share(draws, row)
         tables.append(as_table(shares))
     return tables
-
-
-def made_lists(seed):
-    """Parts and draws by chance: alike parts, needless questions and parts beneath no other among them."""
-    chance = random.Random(seed)
-    draws = [[(number, chance.randint(1, 9)) for number in range(chance.choice([1, 2, 2, 3, 6]))] for each in range(4)]
-    parts = [("leaf", chance.choice([None, 0, 1, 5, A1])) for each in range(3)]
-    for each in range(12):
-        site = chance.randrange(4)
-        fitting = [place for place, part in enumerate(parts) if part[0] == "leaf" or part[1] > site]
-        parts.append(("ask", site, chance.choices(fitting, k=len(draws[site]))))
-        if chance.randrange(4) == 0:
-            parts.append(("leaf", chance.choice([None, 0, 2, AB])))
-    return parts, draws
 
 
 class TestWeighed(unittest.TestCase):
@@ -102,12 +74,7 @@ class TestWeighed(unittest.TestCase):
         tables = weighed(parts=parts, draws=draws)
         self.assertEqual((parts, draws), before)
         wanted = deepcopy(tables)
-        for part in parts:
-            if part[0] == "ask":
-                part[2].clear()
-        for each in draws:
-            each.clear()
-        parts.clear()
+        empty(parts, draws)
         self.assertEqual(tables, wanted)
 
     def test_each_table_is_a_list_of_its_own(self):
