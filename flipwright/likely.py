@@ -3,7 +3,7 @@
 from flipwright.errors import Never
 from flipwright.ratios import fraction
 from flipwright.tables import weights_of
-from flipwright.weighing import graph_of
+from flipwright.weighing import from_below, graph_of
 
 # Rows of choices are held against each other by the products of their weights, which are whole numbers: the product
 # of the draws' sums of weights beneath them is the same for all rows, so shares are made at the end alone.
@@ -26,13 +26,7 @@ def row_weights(parts, draws):
     free = 1
     for draw in draws:
         free *= max(weights_of(draw))
-    found = []
-    for part in parts:
-        if part[0] == "ask":
-            found.append(max(index_weights(part, draws, found)))
-        else:
-            found.append(0 if part[1] is None else free)
-    return found
+    return from_below(parts, free, lambda part, found: max(index_weights(part, draws, found)))
 
 
 # For each site, and behind the last one, the greatest weights of the draws ahead of it times the sums of the others'.

@@ -29,14 +29,19 @@ def parts_of(term):
     return []
 
 
-def size(one):
-    many = 0
+# All terms of the steps, those within others too, in no told order.
+def terms_in(one):
+    found = []
     waiting = [term for slot, term in one.steps]
     while len(waiting) > 0:
         term = waiting.pop()
         waiting.extend(parts_of(term))
-        many += 1
-    return many
+        found.append(term)
+    return found
+
+
+def size(one):
+    return len(terms_in(one))
 
 
 def bound_of(term, draws):

@@ -62,18 +62,26 @@ def see_rows(row, told):
     return [(row, share)] if share != NOUGHT else []
 
 
+# The slots of a step's factor. Slots rise from step to step, so the own one stands behind those that it leans on.
+def with_own(step, slots):
+    return slots if step[0] == -1 else slots + [step[0]]
+
+
 def factor_of(step, slots, lists, draws):
     rows = []
     for row in rows_of(lists):
         told = term_table(step[1], dict(zip(slots, row)), draws)
         rows.extend(see_rows(row, told) if step[0] == -1 else let_rows(row, told))
-    # Slots rise from step to step, so the own one stands behind those that the step leans on.
-    return (slots if step[0] == -1 else slots + [step[0]], rows)
+    return (with_own(step, slots), rows)
 
 
-def factors(one):
-    by_slot = dict(ranges(one))
+# For those who have the ranges already, as a dict from slots to values.
+def factors_within(one, by_slot):
     found = []
     for step, slots in zip(one.steps, leaned_slots(one)):
         found.append(factor_of(step, slots, [by_slot[slot] for slot in slots], one.draws))
     return found
+
+
+def factors(one):
+    return factors_within(one, dict(ranges(one)))

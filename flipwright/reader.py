@@ -47,9 +47,12 @@ class Cursor:
             raise NoText(self.row)
 
 
+def is_small(word):
+    return 1 <= len(word) <= MOST_LETTERS and all(["a" <= sign <= "z" for sign in word])
+
+
 def is_name(word):
-    small = all(["a" <= sign <= "z" for sign in word])
-    return small and 1 <= len(word) <= MOST_LETTERS and word not in NO_NAMES
+    return is_small(word) and word not in NO_NAMES
 
 
 # A word that begins with a figure is of figures alone: so rows are parted.

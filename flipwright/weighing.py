@@ -25,6 +25,18 @@ def weighed(parts, draws):
     return tables
 
 
+# A whole number for each part: of None 0, of every other leaf what is told, of a question what the function tells of
+# it and of the numbers beneath it.
+def from_below(parts, at_leaf, how):
+    found = []
+    for part in parts:
+        if part[0] == "ask":
+            found.append(how(part, found))
+        else:
+            found.append(0 if part[1] is None else at_leaf)
+    return found
+
+
 def graph_table(one):
     tables = weighed(graph_of(one), one.draws)
     return scaled(without(tables[-1], None))

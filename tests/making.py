@@ -8,7 +8,7 @@ from math import prod
 from flipwright.errors import FlipError
 from flipwright.opening import Opened, opened
 from flipwright.reader import read
-from flipwright.running import Listed, run
+from flipwright.running import Listed, counted, run, told
 from flipwright.tables import rank
 from flipwright.words import words_of
 from flipwright.writer import shown
@@ -212,6 +212,22 @@ def table_by_rows(one):
             shares[outcome] = shares.get(outcome, 0) + row_share(one.draws, row)
     whole = sum(shares.values())
     return as_table({outcome: share / whole for outcome, share in shares.items()})
+
+
+def runs_by_rows(one):
+    """A pair (what each step's slot holds, share) for every row of choices with which all that is seen is so."""
+    found = []
+    for row in rows_of_choices(one.draws):
+        held = {}
+        for number, term in one.steps:
+            value = told(term, held, one.draws, Listed(row))
+            if number != -1:
+                held[number] = value
+            elif counted(value) == 0:
+                break
+        else:
+            found.append((held, row_share(one.draws, row)))
+    return found
 
 
 def answer(teller, one):
