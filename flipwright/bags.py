@@ -32,7 +32,7 @@ def taken_out(one):
     found = []
     while len(around) > 0:
         slot = next_out(around, one.steps[-1][0])
-        others = sorted(around.pop(slot))
+        others = list(around.pop(slot))
         for other in others:
             around[other].pop(slot)
         make_neighbours(around, others)
