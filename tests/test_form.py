@@ -34,6 +34,8 @@ KEYWORDS = {"sorted": {"key", "reverse"}, "min": {"key", "default"}, "max": {"ke
 WALKED = {"zip", "enumerate", "reversed", "range"}
 WALKED_METHODS = {"items", "keys", "values"}
 WALKERS = {"list", "tuple", "dict", "sorted", "sum", "any", "all", "enumerate", "zip", "min", "max"}
+VALUES_LIKE_PYTHONS = set("count index title find get join lower upper split strip copy add".split())
+PYTHONS_OWN = {name for kind in (str, int, list, dict, set, frozenset, tuple, bytes) for name in dir(kind)}
 SINGLE_RULES = []
 
 
@@ -192,6 +194,89 @@ def l27_numbers_and_texts(node):
     return isinstance(node, ast.Constant) and isinstance(node.value, str) and "%" in node.value
 
 
+@rule
+def l26_names_of_values_and_methods(node):
+    if isinstance(node, ast.Attribute) and isinstance(node.ctx, ast.Store):
+        return node.attr in PYTHONS_OWN and node.attr not in VALUES_LIKE_PYTHONS
+    if isinstance(node, ast.FunctionDef) and isinstance(node.parent, ast.ClassDef):
+        return node.name in PYTHONS_OWN and node.name not in METHODS | OWN_UNDERSCORES | {"add", "discard"}
+    return False
+
+
+@rule
+def l28_init_gives_back_nothing(node):
+    if not isinstance(node, ast.Return):
+        return False
+    while not isinstance(node, ast.FunctionDef):
+        node = node.parent
+    return node.name == "__init__"
+
+
+def is_plain(node, functions, within=False):
+    """Whether a value of a file's top is plain: no list or dict holds another one."""
+    if isinstance(node, ast.Constant):
+        return node.value is None or isinstance(node.value, (int, str))
+    if isinstance(node, ast.Name):
+        return node.id in functions
+    if isinstance(node, ast.Tuple):
+        return all(is_plain(part, functions, within) for part in node.elts)
+    if isinstance(node, ast.List):
+        return not within and all(is_plain(part, functions, True) for part in node.elts)
+    return isinstance(node, ast.Dict) and not within and all(
+        is_plain(part, functions, True) for part in node.keys + node.values)
+
+
+def value_faults(tree):
+    functions = []
+    for part in tree.body:
+        functions += [part.name] if isinstance(part, ast.FunctionDef) else []
+        if isinstance(part, ast.Assign) and not is_plain(part.value, functions):
+            yield ("l3_l15_plain_values", part.lineno)
+
+
+def is_read(node):
+    """Whether a list or dict of a file's top is only read here."""
+    parent = node.parent
+    if isinstance(parent, ast.Subscript):
+        return parent.value is node and isinstance(parent.ctx, ast.Load)
+    if isinstance(parent, ast.Attribute):
+        return parent.attr in ("get", "items", "keys", "values", "index", "count", "copy")
+    return isinstance(parent, (ast.Compare, ast.For, ast.comprehension)) or called(parent) in WALKERS | {"len"}
+
+
+def kept_faults(tree):
+    kept = {target.id for part in tree.body if isinstance(part, ast.Assign)
+            and isinstance(part.value, (ast.List, ast.Dict)) for target in part.targets}
+    for node in ast.walk(tree):
+        if isinstance(node, ast.Name) and node.id in kept and isinstance(node.ctx, ast.Load) and not is_read(node):
+            yield ("l15_only_read", node.lineno)
+
+
+def lambda_faults(tree):
+    seen = [(node.lineno, tuple(each.arg for each in node.args.args)) for node in ast.walk(tree)
+            if isinstance(node, ast.Lambda)]
+    return [("l13_two_lambdas", line) for line, names in sorted(set(seen)) if seen.count((line, names)) > 1]
+
+
+def stands_as_a_class(node):
+    """Whether the name of a class is called, a base, an annotation's, or stands by isinstance, except or __init__."""
+    parent = node.parent.parent if isinstance(node.parent, ast.Tuple) else node.parent
+    if isinstance(parent, ast.Call):
+        return parent.func is node or called(parent) == "isinstance" and parent.args[0] is not node
+    if isinstance(parent, ast.Attribute):
+        return parent.attr == "__init__"
+    return isinstance(parent, (ast.ClassDef, ast.ExceptHandler))
+
+
+def class_faults(tree):
+    classes = {node.name for node in tree.body if isinstance(node, ast.ClassDef)}
+    classes |= {alias.name for part in tree.body if isinstance(part, ast.ImportFrom) for alias in part.names
+                if alias.name[0].isupper() and not alias.name.isupper()}
+    for node in ast.walk(tree):
+        if isinstance(node, ast.Name) and node.id in classes and not stands_as_a_class(node):
+            yield ("l18_classes", node.lineno)
+
+
 def shadowing_faults(tree):
     taken = {alias.name for part in tree.body if isinstance(part, ast.ImportFrom) for alias in part.names}
     taken |= {part.name for part in tree.body if isinstance(part, ast.ClassDef)}
@@ -250,7 +335,8 @@ def faults_of(source, own_methods=frozenset()):
         for child in ast.iter_child_nodes(node):
             child.parent = node
     faults = list(text_faults(source)) + top_faults(tree) + list(method_faults(tree, set(own_methods)))
-    faults += shadowing_faults(tree)
+    for check in (shadowing_faults, value_faults, kept_faults, lambda_faults, class_faults):
+        faults += check(tree)
     docstring = tree.body[0] if tree.body and is_docstring(tree.body[0]) else None
     for node in ast.walk(tree):
         if isinstance(node, ast.Expr) and node is not docstring and not isinstance(node.value, ast.Call):
@@ -314,6 +400,12 @@ class TestTheRules(unittest.TestCase):
             with self.subTest(line):
                 self.assertEqual(faults_of("def f(x):\n    return " + line + "\n"), [])
 
+    def test_lists_of_the_top_that_are_read_and_classes_that_stand_as_such_are_no_fault(self):
+        source = ("XS = {1: (2, 3)}\n\n\nclass C:\n    def __init__(self):\n        self.index = 1\n\n\n"
+                  "class D(C):\n    def __init__(self):\n        C.__init__(self)\n\n\n"
+                  "def f(x):\n    return [XS[1], XS.get(2), 1 in XS, len(XS), dict(XS), C(), isinstance(x, (C, D))]\n")
+        self.assertEqual(faults_of(source), [])
+
     def test_a_plain_file_has_no_fault(self):
         self.assertEqual(faults_of('"""Why."""\n\nONE = (1, 1)\n\n\ndef f(x):\n    return [y for y in x if y]\n'), [])
 
@@ -322,6 +414,19 @@ class TestTheRules(unittest.TestCase):
             ("l2_imports", "from math import gcd\n"),
             ("l2_imports", "from flipwright.nowhere import gcd\n"),
             ("l3_top_of_a_module", "if True:\n    x = 1\n"),
+            ("l3_l15_plain_values", "x = 1 + 1\n"),
+            ("l3_l15_plain_values", "x = [[1], [2]]\n"),
+            ("l3_l15_plain_values", "x = {1: (2, [3])}\n"),
+            ("l3_l15_plain_values", "x = [len]\n"),
+            ("l13_two_lambdas", "def f(g):\n    return g(lambda x: x, lambda x: 1)\n"),
+            ("l15_only_read", "xs = [1]\n\n\ndef f():\n    return xs\n"),
+            ("l15_only_read", "xs = [1]\n\n\ndef f():\n    xs.append(2)\n"),
+            ("l15_only_read", "xs = {1: 2}\n\n\ndef f():\n    xs[1] = 3\n"),
+            ("l18_classes", "class C:\n    pass\n\n\ndef f():\n    return [C]\n"),
+            ("l18_classes", "from flipwright.graphs import Graphs\n\n\ndef f(x):\n    return x(Graphs)\n"),
+            ("l26_names_of_values_and_methods", "class C:\n    def __init__(self):\n        self.items = 1\n"),
+            ("l26_names_of_values_and_methods", "class C:\n    def numerator(self):\n        return 1\n"),
+            ("l28_init_gives_back_nothing", "class C:\n    def __init__(self):\n        if 1:\n            return\n"),
             ("l4_plain_functions", "def f(*xs):\n    return xs\n"),
             ("l5_plain_classes", "class C:\n    x = 1\n"),
             ("l6_calls_alone", "def f():\n    'why'\n    return 1\n"),

@@ -1,5 +1,6 @@
 """The filled bags, the slots' tables and the bags' table: promise 31, and what promises 2 and 3 say of them."""
 
+import random
 import unittest
 from copy import deepcopy
 from fractions import Fraction
@@ -44,6 +45,22 @@ def slot_tables_by_rows(one):
             shares = found.setdefault(number, {})
             shares[value] = shares.get(value, 0) + share / whole
     return [(number, as_table(found[number])) for number in sorted(found)]
+
+
+def made_network(seed):
+    """A program of some steps that lean on up to three others each, and sees of two of them."""
+    chance = random.Random(seed)
+    steps, draws = [], []
+    for number in range(7):
+        term = draw(number)
+        draws.append([(value, chance.randint(1, 4)) for value in chance.sample(range(3), chance.choice([2, 2, 3]))])
+        for each in chance.sample(range(number), min(number, chance.choice([0, 1, 2, 3]))):
+            term = op(chance.choice("+*<="), term, slot(each))
+        steps.append((number, ("rest", term, 3)))
+        if number > 1 and chance.randrange(3) == 0:
+            first, second = chance.sample(range(number), 2)
+            steps.append((-1, op(chance.choice("+<="), slot(first), slot(second))))
+    return Opened(steps + [(7, slot(chance.randrange(7)))], draws, 8)
 
 
 def marginal(bag, rows, slots):
@@ -166,6 +183,15 @@ class TestFilled(unittest.TestCase):
                 seen[Never if expected is None else list] += 1
         self.assertGreater(seen[Never], 50)
         self.assertGreater(seen[list], 500)
+
+    def test_made_networks(self):
+        widths = set()
+        for seed in range(25):
+            one = made_network(seed)
+            expected = filled_by_rows(one)
+            self.assertEqual(answer(filled, one), Never if expected is None else expected)
+            widths.update(len(bag) for number, bag, up in bags(one))
+        self.assertGreaterEqual(max(widths), 4)
 
     def test_shares_add_up_to_one_and_rows_are_no_more_than_the_cost(self):
         for one in made_opened(300, 3, 10 ** 5):
